@@ -1,0 +1,1 @@
+"""Turnwriter: machines that read a text and write another."""
