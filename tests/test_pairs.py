@@ -109,6 +109,13 @@ class TwofoldTest(unittest.TestCase):
         self.is_twofold((8, 0, [7], one + other[:2] + [(5, "c", "y", 6), other[3]]))
         self.is_twofold((8, 0, [7], one + other[:3] + [(6, "d", "z", 7)]))
 
+    def test_the_shorter_beginning_is_the_one_that_writes_something_else(self):
+        # Both beginnings lead to the same states; with the rest, only the first of them writes unlike texts.
+        moves = [(0, "a", "x", 1), (0, "a", "", 1), (0, "a", "", 2), (1, "", "", 4), (4, "b", "", 3), (2, "b", "", 3)]
+        self.is_twofold((5, 0, [3], moves))
+        self.is_twofold((5, 0, [3], [moves[1], moves[0], *moves[2:]]))
+        self.is_not((5, 0, [3], moves[1:]))
+
     def test_no_ways_at_all(self):
         self.is_not((1, 0, [], []))
         self.is_not((1, 0, [0], []))

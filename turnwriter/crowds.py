@@ -60,7 +60,7 @@ def useful(machine, text):
     _, begin, ends, moves = machine
     ahead = read_on([(start, read, goal) for start, read, _, goal in moves], [begin], text)
     back = read_on([(goal, read, start) for start, read, _, goal in moves], ends, text[::-1])
-    return [reached & live for reached, live in zip(ahead, reversed(back))]
+    return [reached & live for reached, live in zip(ahead, back[::-1])]
 
 
 def read_on(steps, starts, text):

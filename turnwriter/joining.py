@@ -9,7 +9,7 @@ from turnwriter.machines import check_machine, turned
 
 MOST_JOINED_STATES = 100
 MOST_JOINED_SIZE = 1000
-MOST_UNGUIDED = 300000
+MOST_UNGUIDED = 500000
 
 
 def joined(one, other):
@@ -71,8 +71,6 @@ def common_writing(first, second):
     come is first served, which keeps the text short. Mostly this leads to an
     end soon. If it does not, it is found out which spots can lead there.
     """
-    if first.is_empty() or second.is_empty():
-        return None
     start = (first.begin, second.begin, "")
     came = {start: None}
     waiting = [deque([start])]

@@ -25,10 +25,6 @@ class Lane:
             self.entering[goal].append((start, read, write))
         self.found = {}
 
-    def is_empty(self):
-        """Whether no way of the machine reads the text."""
-        return self.useful[0] == 0
-
     def has(self, place):
         """Whether a way that reads the text whole passes this place."""
         at, state = divmod(place, self.states)

@@ -4,8 +4,8 @@
 class Live:
     """The pairs of a place of each of two lanes from which both can come to an end by writing the same.
 
-    For each place of the first lane and each state of the second one there is
-    a row: a whole number, in which the bit 2 ** k stands for the place of the
+    For each place of the first lane there are rows: for states of the second
+    one a whole number, in which the bit 2 ** k stands for the place of the
     second lane where k signs are read. So one step serves all these places.
     """
 
@@ -19,10 +19,10 @@ class Live:
     def has(self, place, other_place):
         """Whether both lanes can come to an end together from these places."""
         at, state = divmod(other_place, self.second.states)
-        return place in self.rows and self.rows[place][state] >> at & 1 == 1
+        return place in self.rows and self.rows[place].get(state, 0) >> at & 1 == 1
 
     def found_back_moves(self):
-        """For each text written along the second lane: tuples (goal, signs read, where they can be read, start)."""
+        """For each text written by a move along the second lane and the goal of the move: what step_back needs."""
         where = {"": (2 << len(self.second.text)) - 1}
         for at, sign in enumerate(self.second.text):
             where[sign] = where.get(sign, 0) | 1 << at
@@ -30,7 +30,7 @@ class Live:
         for goal, moves in enumerate(self.second.entering):
             for start, read, write in moves:
                 if read in where:
-                    back_moves.setdefault(write, []).append((goal, len(read), where[read], start))
+                    back_moves.setdefault((write, goal), []).append((start, len(read), where[read]))
         return back_moves
 
     def fill(self):
@@ -46,49 +46,51 @@ class Live:
 
     def end_rows(self):
         """The rows in which only the ends of the second lane stand."""
-        rows = [0] * self.second.states
+        rows = {}
         for place in self.second.ends:
             at, state = divmod(place, self.second.states)
-            rows[state] |= 1 << at
+            add_rows(rows, {state: 1 << at})
         return rows
 
     def fill_from(self, place, rows, waiting, before):
         """Add these rows to those of a place, and let what is new wait at the places that lead to it."""
-        had = self.rows.get(place, [0] * len(rows))
-        if not any(without(rows, had)):
-            return
+        had = self.rows.setdefault(place, {})
         new = without(self.spread_back(without(rows, had)), had)
-        self.rows[place] = together(new, had)
+        if not new:
+            return
+        add_rows(had, new)
         led_back = {"": new}
         for then, read, write in self.first.steps_back(place):
             if write not in led_back:
                 led_back[write] = self.step_back(new, write)
             found = before if read else waiting
-            found[then] = together(led_back[write], found.get(then, [0] * len(rows)))
+            add_rows(found.setdefault(then, {}), led_back[write])
 
     def step_back(self, rows, write):
         """The rows that lead to these by one move along the second lane that writes this."""
-        before = [0] * len(rows)
-        for goal, read, where, start in self.back_moves.get(write, []):
-            if rows[goal]:
-                before[start] |= rows[goal] >> read & where
+        before = {}
+        for goal, row in rows.items():
+            for start, read, where in self.back_moves.get((write, goal), []):
+                before[start] = before.get(start, 0) | row >> read & where
         return before
 
     def spread_back(self, rows):
         """The rows that lead to these by moves along the second lane that write nothing."""
-        spread = rows
+        spread = dict(rows)
         new = rows
-        while any(new):
+        while new:
             new = without(self.step_back(new, ""), spread)
-            spread = together(spread, new)
+            add_rows(spread, new)
         return spread
 
 
-def together(rows, others):
-    """What stands in one of two lists of rows, or in both."""
-    return [row | other for row, other in zip(rows, others)]
+def add_rows(rows, more):
+    """Add to rows what stands in other ones."""
+    for state, row in more.items():
+        rows[state] = rows.get(state, 0) | row
 
 
 def without(rows, others):
-    """What stands in the first list of rows and not in the second one."""
-    return [row & ~other for row, other in zip(rows, others)]
+    """What stands in rows and not in other ones."""
+    left = {state: row & ~others.get(state, 0) for state, row in rows.items()}
+    return {state: row for state, row in left.items() if row}

@@ -47,31 +47,36 @@ class Gaps:
         waiting = [self.square.first]
         at = 0
         while at < len(waiting) and self.proof is None:
-            spot = waiting[at]
-            for step in self.square.steps(spot):
-                then = step[2]
-                if then in self.square.rest and self.proof is None:
-                    if then not in self.found:
-                        waiting.append(then)
-                    self.take(spot, step)
+            waiting.extend(self.measure_from(waiting[at]))
             at += 1
 
-    def take(self, spot, step):
-        """Keep the gap that a step leads to, or the proof that there cannot be one."""
-        side, index, then = step
-        gap = gap_after(self.found[spot], side, self.square.moves[index][2])
-        if gap is None or self.found.get(then, gap) != gap or (self.square.is_last(then) and gap != NO_GAP):
-            self.prove(spot, step)
-        elif then not in self.found:
-            self.found[then] = gap
-            self.came[then] = (spot, side, index)
+    def measure_from(self, spot):
+        """Find the gaps of the spots that steps lead to, up to the first proof, and tell the new spots."""
+        new = []
+        for step in self.square.steps(spot):
+            side, index, then = step
+            if then in self.square.rest:
+                gap = gap_after(self.found[spot], side, self.square.moves[index][2])
+                if not self.can_be(then, gap):
+                    self.prove(spot, step)
+                    return []
+                if then not in self.found:
+                    self.found[then] = gap
+                    self.came[then] = (spot, side, index)
+                    new.append(then)
+        return new
+
+    def can_be(self, spot, gap):
+        """Whether a spot can have this gap, as far as it is known, in a machine that is not twofold."""
+        if gap is None or self.square.is_last(spot):
+            return gap == NO_GAP
+        return self.found.get(spot, gap) == gap
 
     def prove(self, spot, step):
-        """Keep the proof, from a step whose gap is not the only one.
+        """Keep the proof, from a step that leads to a gap that cannot be.
 
-        Whatever the rest is, it can make up for one gap only, so both ways by
-        this step write unlike texts, or those by which the next spot was come
-        to earlier.
+        A rest can make up for one gap at most. So if both ways by this step
+        write the same, those by which the next spot was come to do not.
         """
         side, index, then = step
         rest = self.square.moved_from(then)

@@ -19,13 +19,14 @@ class Spelling:
         self.leads = Leads([(start, (read, write), goal) for start, read, write, goal in moves])
         lane = Lane(machine, text)
         self.useful = lane.useful
-        self.lacking = lackers(lane)
+        self.lacking = found_lacking(lane)
         self.standings = []
         self.numbers = {}
         self.found = {}
         self.first = self.number_of(self.settled({0: 1 << begin}))
 
     def number_of(self, standing):
+        """The number of a standing, a new one where it comes up first."""
         if standing not in self.numbers:
             self.numbers[standing] = len(self.standings)
             self.standings.append((standing, self.least_lacking(standing)))
@@ -36,7 +37,8 @@ class Spelling:
         return min([self.least_at(at, crowd) for at, crowd in standing], default=None)
 
     def least_at(self, at, crowd):
-        return min([lacking for lacking, lackers in self.lacking[at].items() if crowd & lackers])
+        """How many signs the one of a crowd must still write at least that needs the fewest."""
+        return min([many for many, some in self.lacking[at].items() if crowd & some])
 
     def can_end(self, number, spare):
         """Whether the machine can come to an end if it writes at most so many more signs."""
@@ -86,8 +88,8 @@ def is_writing(read, write):
     return write != ""
 
 
-def lackers(lane):
-    """For each number of signs read: by how many signs are still to be written at least, the crowd of such states."""
+def found_lacking(lane):
+    """For each number of signs read, by how many signs must still be written at least: the crowd of those states."""
     found = [{} for _ in lane.useful]
     for place, many in enumerate(lane.least_to_end(is_writing)):
         if many is not None:
